@@ -95,6 +95,11 @@ func (f Fraction) Nearest() Fraction {
 	return f.Plus(half).Floor()
 }
 
+// Root returns the greatest integer whose square is at most f, which is not negative.
+func (f Fraction) Root() Fraction {
+	return whole(integer{size: f.size.over(f.denominator).root()})
+}
+
 // Decimal returns the decimal text of f, rounded to so many places (none or more).
 func (f Fraction) Decimal(places int) string {
 	power := natural{1}

@@ -136,6 +136,41 @@ func TestCommonDivisorsOfMultiples(t *testing.T) {
 	}
 }
 
+// checkRoots compares the roots of the square of m and of the numbers beside it.
+func checkRoots(t *testing.T, m natural) {
+	t.Helper()
+	square := m.product(m)
+	l := []natural{m, square, square.sum(natural{1}), square.sum(m).sum(m)}
+	if len(m) > 0 {
+		l = append(l, square.difference(natural{1}))
+	}
+	for _, n := range l {
+		before := slices.Clone(n)
+		checkNatural(t, n.root(), new(big.Int).Sqrt(bigOf(n)), "root", n, nil)
+		if !slices.Equal(n, before) {
+			t.Errorf("the root of %x was written to it", bigOf(before))
+		}
+	}
+}
+
+func TestRoots(t *testing.T) {
+	for _, m := range naturals(400, 20) {
+		checkRoots(t, m)
+	}
+	for n := range uint64(300) {
+		checkRoots(t, trimmed([]uint64{n}))
+	}
+	for n := range 200 { // around the powers of two, from which the steps begin
+		m := powerOfTwo(n)
+		if bigOf(m).Cmp(new(big.Int).Lsh(big.NewInt(1), uint(n))) != 0 {
+			t.Errorf("%x is 2^%d", bigOf(m), n)
+		}
+		checkRoots(t, m)
+		checkRoots(t, m.sum(natural{1}))
+		checkRoots(t, m.difference(natural{1}))
+	}
+}
+
 func TestDigits(t *testing.T) {
 	l := naturals(300, 20)
 	for n := range 200 { // zeros inside and at the end
@@ -248,6 +283,11 @@ func TestRoundingOfFractions(t *testing.T) {
 		}
 		if f.Sign() != x.Sign() {
 			t.Errorf("%v has the sign %d", x, f.Sign())
+		}
+		if root := floor(x); root.Sign() >= 0 {
+			if got := ratOf(t, f.Root()); got.Cmp(new(big.Rat).SetInt(root.Sqrt(root))) != 0 {
+				t.Errorf("root of %v: %v; want %v", x, got, root)
+			}
 		}
 	}
 }
