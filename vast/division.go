@@ -79,9 +79,8 @@ func take(rest []uint64, divisor natural, often uint64) bool {
 	top := len(divisor)
 	var above, borrow uint64
 	for i, word := range divisor {
-		high, low := bits.Mul64(word, often)
-		low, carry := bits.Add64(low, above, 0)
-		above = high + carry
+		var low uint64
+		above, low = scaled(word, often, above)
 		rest[i], borrow = bits.Sub64(rest[i], low, borrow)
 	}
 	rest[top], borrow = bits.Sub64(rest[top], above, borrow)

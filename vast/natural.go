@@ -88,28 +88,6 @@ func addMultiple(words []uint64, n natural, factor uint64) uint64 {
 	return above
 }
 
-// commonDivisor returns the greatest common divisor of m and n.
-func (m natural) commonDivisor(n natural) natural {
-	if m.isOne() || n.isOne() {
-		return natural{1}
-	}
-	// Steps of Euclid's algorithm lead to wide integers; package wide does the rest faster.
-	second, fits := n.wide()
-	for !fits {
-		m, n = n, m.modulo(n)
-		second, fits = n.wide()
-	}
-	if len(n) == 0 {
-		return m
-	}
-	first, fits := m.wide()
-	if !fits {
-		first, _ = m.modulo(n).wide()
-	}
-	divisor, _ := wide.Gcd(first, second)
-	return trimmed(divisor[:])
-}
-
 // wide returns m as a wide integer, and whether it is one.
 func (m natural) wide() (a api.Wide, fits bool) {
 	if len(m) > len(a) {

@@ -136,6 +136,24 @@ func TestCommonDivisorsOfMultiples(t *testing.T) {
 	}
 }
 
+// Numbers for which Euclid's algorithm takes the most steps, and such that begin with the same words.
+func TestCommonDivisorsOfLongNumbers(t *testing.T) {
+	a, b := big.NewInt(1), big.NewInt(1)
+	for range 9000 {
+		a, b = b, a.Add(a, b)
+	}
+	l := []natural{naturalOf(a), naturalOf(b)}
+	for _, m := range naturals(16, 150) {
+		high := naturalOf(new(big.Int).Lsh(a, 64))
+		l = append(l, m, high.sum(m), high.product(m))
+	}
+	for _, m := range l {
+		for _, n := range l {
+			checkNatural(t, m.commonDivisor(n), new(big.Int).GCD(nil, nil, bigOf(m), bigOf(n)), "common divisor", m, n)
+		}
+	}
+}
+
 // checkRoots compares the roots of the square of m and of the numbers beside it.
 func checkRoots(t *testing.T, m natural) {
 	t.Helper()
@@ -303,6 +321,27 @@ func TestDecimalTexts(t *testing.T) {
 	} {
 		if got := fractionOf(big.NewRat(x.n, x.d)).Decimal(x.places); got != x.want {
 			t.Errorf("%d / %d with %d places: %s; want %s", x.n, x.d, x.places, got, x.want)
+		}
+	}
+}
+
+func TestKeys(t *testing.T) {
+	l := append(fractions(150, 20), big.NewRat(1, 256), big.NewRat(256, 1), new(big.Rat).SetInt(new(big.Int).Lsh(big.NewInt(1), 64)))
+	l = append(l, new(big.Rat).Inv(l[len(l)-1]))
+	for _, x := range l {
+		l = append(l, new(big.Rat).Neg(x))
+	}
+	numbers := map[Key]*big.Rat{}
+	for _, x := range l {
+		key := fractionOf(x).Key()
+		if before, isThere := numbers[key]; isThere && before.Cmp(x) != 0 {
+			t.Errorf("%v and %v have the same key", before, x)
+		}
+		numbers[key] = x
+		// The same number, by way of others.
+		f := fractionOf(x).Plus(fractionOf(l[9])).Minus(fractionOf(l[9])).Times(fractionOf(big.NewRat(-6, 4))).Over(fractionOf(big.NewRat(-3, 2)))
+		if f.Key() != key {
+			t.Errorf("%v has the keys %v and %v", x, key, f.Key())
 		}
 	}
 }
